@@ -11,7 +11,7 @@ import (
 	"understudy/trap"
 )
 
-// model is the chapter told again, without the layers ahead: an instruction, the state that it has, what came of it.
+// model is the chapter told again, without the layers ahead (but for the masks of bits): an instruction, the state that it has, what came of it.
 type model struct {
 	i   api.Insn
 	c   api.Core
