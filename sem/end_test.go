@@ -4,7 +4,6 @@ import (
 	"testing"
 
 	"understudy/api"
-	"understudy/trap"
 )
 
 const ones = 1<<64 - 1
@@ -249,75 +248,6 @@ func TestEndAccesses(t *testing.T) {
 		}
 	}
 	does(t, api.Insn{Op: api.Ldr, Rd: 1, Rn: 1}, api.Got{Value: 9}, none, func(d *api.Core) { d.X[1] = 9 })
-}
-
-// P6.3: a fault of an access, or of a system register outside, is an exception; of all else it is nothing.
-func TestEndFaults(t *testing.T) {
-	for el := range 2 {
-		for _, fault := range []int{api.Outside, api.Denied, 3, -1} {
-			got := api.Got{Value: 5, Ok: true, Fault: fault}
-			for _, i := range accesses(1) {
-				c, iss := full(el), 0x10
-				if stores(i.Op) {
-					iss = 0x50
-				}
-				same(t, "a fault", end(t, c, wordOf(t, i), got), enter(t, c, 0x24+el, iss, c.X[1]))
-			}
-			c := full(el)
-			same(t, "mrs", end(t, c, wordOf(t, api.Insn{Op: api.Mrs, Sys: api.SysCnt}), got), enter(t, c, 0, 0, 0))
-			c = full(1)
-			same(t, "msr", end(t, c, wordOf(t, api.Insn{Op: api.Msr, Sys: api.SysPmr}), got), enter(t, c, 0, 0, 0))
-			for _, i := range []api.Insn{
-				{Op: api.Clrex}, {Op: api.Dmb, Imm: 3}, {Op: api.Dmb, Sub: 1, Imm: 3}, {Op: api.Isb}, {Op: api.IcIvau}, {Op: api.DcCvau}, {Op: api.Hint},
-			} {
-				does(t, i, got, func(*api.Core) {}, func(*api.Core) {})
-			}
-			does(t, api.Insn{Op: api.Mrs, Sys: api.SysTpidr}, got, func(*api.Core) {}, func(d *api.Core) { d.X[0] = d.Tpidr })
-			does(t, api.Insn{Op: api.Msr, Sys: api.SysTpidr, Rd: 4}, got, func(*api.Core) {}, func(d *api.Core) { d.Tpidr = d.X[4] })
-			does(t, api.Insn{Op: api.Hint, Imm: 3}, got, func(*api.Core) {}, func(d *api.Core) { d.Wait = 1 })
-		}
-	}
-}
-
-// P6.3: what wants an exception takes it, whatever came.
-func TestEndTraps(t *testing.T) {
-	for el := range 2 {
-		for _, got := range []api.Got{{}, {Value: 5, Ok: true}, {Fault: api.Outside}} {
-			c := full(el)
-			same(t, "svc", end(t, c, 0xD4000001+0x1234<<5, got), enter(t, c, api.EcSvc, 0x1234, 0))
-			same(t, "brk", end(t, c, 0xD4200000+0x1234<<5, got), enter(t, c, api.EcBrk, 0x1234, 0))
-			same(t, "no instruction", end(t, c, 0xFFFFFFFF, got), enter(t, c, api.EcUnknown, 0, 0))
-			c.X[1]++
-			for _, i := range accesses(1) {
-				iss := 0x21
-				if stores(i.Op) {
-					iss = 0x61
-				}
-				same(t, "a crooked address", end(t, c, wordOf(t, i), got), enter(t, c, 0x24+el, iss, c.X[1]))
-			}
-		}
-	}
-	for _, i := range []api.Insn{
-		{Op: api.Eret}, {Op: api.IcIallu}, {Op: api.MsrMask, Imm: 2}, {Op: api.Mrs, Sys: api.SysEl}, {Op: api.Msr, Sys: api.SysDaif}, {Op: api.Msr, Sys: api.SysCnt},
-	} {
-		same(t, "of EL 0", end(t, full(0), wordOf(t, i), api.Got{}), enter(t, full(0), 0, 0, 0))
-	}
-	for _, i := range []api.Insn{{Op: api.Msr, Sys: api.SysMpidr}, {Op: api.Msr, Sys: api.SysIar}, {Op: api.Mrs, Sys: api.SysEoir}, {Op: api.Mrs, Sys: api.SysSgi}} {
-		same(t, "of EL 1", end(t, full(1), wordOf(t, i), api.Got{}), enter(t, full(1), 0, 0, 0))
-	}
-}
-
-// P6.3: Eret is layer 7's way back.
-func TestEndEret(t *testing.T) {
-	for _, spsr := range []uint64{0, 5, 0x80000085, 4, ones} {
-		c := full(1)
-		c.Spsr = spsr
-		want, e := trap.Back(c)
-		if e != api.OK {
-			t.Fatal(e)
-		}
-		same(t, "eret", end(t, c, 0xD69F03E0, api.Got{Fault: api.Outside}), want)
-	}
 }
 
 // P6.3: system registers of the state, and those outside.

@@ -8,7 +8,6 @@ import (
 	"understudy/api"
 	"understudy/bits"
 	"understudy/code"
-	"understudy/trap"
 )
 
 // model is the chapter told again, without the layers ahead (but for the masks of bits): an instruction, the state that it has, what came of it.
@@ -350,28 +349,70 @@ func (m *model) set(sys int, x uint64) {
 	}
 }
 
-// end is the state behind it; of an exception, and of Eret, that which layer 7 tells.
-func (m *model) end() (api.Core, api.Errno) {
+// end is the state behind it.
+func (m *model) end() api.Core {
 	w := m.want()
 	isStore := w.Kind == api.WStore || w.Kind == api.WStoreEx
 	switch {
 	case w.Kind == api.WTrap:
-		return trap.Enter(m.c, w.Class, w.Iss, w.Addr)
+		return entered(m.c, w.Class, w.Iss, w.Addr)
 	case m.got.Fault != 0 && isStore:
-		return trap.Enter(m.c, 0x24+m.c.EL, 0x50, w.Addr)
+		return entered(m.c, 0x24+m.c.EL, 0x50, w.Addr)
 	case m.got.Fault != 0 && (w.Kind == api.WLoad || w.Kind == api.WLoadEx):
-		return trap.Enter(m.c, 0x24+m.c.EL, 0x10, w.Addr)
+		return entered(m.c, 0x24+m.c.EL, 0x10, w.Addr)
 	case m.got.Fault != 0 && (w.Kind == api.WSysRead || w.Kind == api.WSysWrite):
-		return trap.Enter(m.c, 0, 0, 0)
+		return entered(m.c, 0, 0, 0)
 	case m.i.Op == api.Eret:
-		return trap.Back(m.c)
+		return gone(m.c)
 	}
 	at := m.c.PC
 	m.c.PC += 4
 	m.reckon()
 	m.flow(at)
 	m.system()
-	return m.c, api.OK
+	return m.c
+}
+
+// spsrOf is what SPSR has of a state, as chapter 7 tells it.
+func spsrOf(c api.Core) uint64 {
+	parts := []struct {
+		on    bool
+		value uint64
+	}{{c.N, 0x80000000}, {c.Z, 0x40000000}, {c.C, 0x20000000}, {c.V, 0x10000000}, {c.Mask, 0x80}, {c.EL == 1, 5}}
+	sum := uint64(0)
+	for _, p := range parts {
+		if p.on {
+			sum += p.value
+		}
+	}
+	return sum
+}
+
+// entered is the state behind an exception, as chapter 7 tells it.
+func entered(c api.Core, class, iss int, far uint64) api.Core {
+	d := c
+	d.Spsr, d.Elr, d.Esr = spsrOf(c), c.PC, uint64(class<<26+1<<25+iss)
+	d.EL, d.Mask, d.Wait = 1, true, 0
+	d.PC = c.Vbar + []uint64{0x400, 0x200}[c.EL]
+	switch class {
+	case api.EcSvc:
+		d.Elr += 4
+	case api.EcData, api.EcData + 1: // of the classes with an address those that an instruction has
+		d.Far = far
+	}
+	return d
+}
+
+// gone is the state behind Eret, as chapter 7 tells it.
+func gone(c api.Core) api.Core {
+	s := c.Spsr
+	c.PC, c.Event = c.Elr, true
+	if low := s % 0x10000000; s >= 1<<32 || low != 0 && low != 5 && low != 0x80 && low != 0x85 {
+		return c
+	}
+	c.N, c.Z, c.C, c.V = s>>31%2 == 1, s>>30%2 == 1, s>>29%2 == 1, s>>28%2 == 1
+	c.Mask, c.EL = s>>7%2 == 1, int(s%2)
+	return c
 }
 
 // P6.2, P6.3: what instructions of each Op want, and what they do, in states of all sorts, with all sorts of answers.
@@ -385,10 +426,7 @@ func TestModel(t *testing.T) {
 			if w, want := begin(t, c, word), m.want(); w != want {
 				t.Fatalf("Begin of %+v:\n%+v, not\n%+v", i, w, want)
 			}
-			want, e := m.end()
-			if e != api.OK {
-				t.Fatalf("%+v: %v", i, e)
-			}
+			want := m.end()
 			if d := end(t, c, word, got); d != want {
 				t.Fatalf("End of %+v, %+v, of\n%+v:\n%+v, not\n%+v", i, got, c, d, want)
 			}
@@ -405,7 +443,6 @@ func TestModelWords(t *testing.T) {
 		if w, want := begin(t, c, word), m.want(); w != want {
 			t.Fatalf("Begin of %08x:\n%+v, not\n%+v", word, w, want)
 		}
-		want, _ := m.end()
-		same(t, "End", end(t, c, word, got), want)
+		same(t, "End", end(t, c, word, got), m.end())
 	}
 }

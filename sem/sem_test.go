@@ -8,7 +8,6 @@ import (
 	"understudy/code"
 	"understudy/regs"
 	"understudy/sem"
-	"understudy/trap"
 )
 
 // full is a right state of a level that has something else in each field, and no number that two of them share.
@@ -167,17 +166,12 @@ func TestExamples(t *testing.T) {
 	same(t, "add", end(t, c, 0x91000420, api.Got{}), sum)
 	same(t, "ldr", end(t, c, 0xF9400000, api.Got{Value: 77}), loaded)
 	same(t, "wfi", end(t, c, 0xD503207F, api.Got{}), waits)
-	same(t, "ldr of 5", end(t, c, 0xF9400020, api.Got{}), enter(t, c, api.EcData+1, 0x21, 5))
-	same(t, "ldr of nothing", end(t, c, 0xF9400000, api.Got{Fault: api.Outside}), enter(t, c, api.EcData+1, 0x10, 0))
-	same(t, "no instruction", end(t, c, 0, api.Got{}), enter(t, c, api.EcUnknown, 0, 0))
-}
-
-// enter is the state that layer 7 tells of an exception.
-func enter(t *testing.T, c api.Core, class, iss int, far uint64) api.Core {
-	t.Helper()
-	d, e := trap.Enter(c, class, iss, far)
-	if e != api.OK {
-		t.Fatalf("Enter of %#x, %#x: %v", class, iss, e)
-	}
-	return d
+	in := c
+	in.PC, in.Spsr, in.Elr = 0x200, 0x85, 0x1000
+	crooked, outside, unknown := in, in, in
+	crooked.Esr, crooked.Far = 0x96000021, 5
+	outside.Esr, unknown.Esr = 0x96000010, 0x02000000
+	same(t, "ldr of 5", end(t, c, 0xF9400020, api.Got{}), crooked)
+	same(t, "ldr of nothing", end(t, c, 0xF9400000, api.Got{Fault: api.Outside}), outside)
+	same(t, "no instruction", end(t, c, 0, api.Got{}), unknown)
 }
