@@ -1,7 +1,6 @@
 package fold_test
 
 import (
-	"math/rand"
 	"reflect"
 	"testing"
 
@@ -35,15 +34,7 @@ func isItself(t *testing.T, b api.Block) {
 
 // P18.2, P18.3: of blocks by chance: Block is Steps, Block of Block is Block, Step changes nothing of it, and there are never more operations.
 func TestItselfByChance(t *testing.T) {
-	r := rand.New(rand.NewSource(183))
-	for k := range 20000 {
-		c := chance{r, 1 + r.Intn(4), []int{4, 12, 60}[r.Intn(3)]}
-		many := 2 + c.Intn(40)
-		if k%1000 == 0 {
-			many = api.MaxOps
-		}
-		isItself(t, c.block(many))
-	}
+	eachByChance(1831, func(_ chance, b api.Block) { isItself(t, b) })
 }
 
 // P18.2: what Step tells of a change: true of each thing that is made simpler, false of a block of which nothing is.

@@ -234,6 +234,19 @@ func (c chance) block(many int) api.Block {
 	return b
 }
 
+// eachByChance tells many blocks, each with the chance that made it; some are as long as may be.
+func eachByChance(seed int64, tell func(chance, api.Block)) {
+	r := rand.New(rand.NewSource(seed))
+	for k := range 20000 {
+		c := chance{r, 1 + r.Intn(4), []int{4, 12, 60}[r.Intn(3)]}
+		many := 2 + c.Intn(40)
+		if k%1000 == 0 {
+			many = api.MaxOps
+		}
+		tell(c, c.block(many))
+	}
+}
+
 func (c chance) x() int {
 	return (c.Intn(c.registers) + c.Intn(2)*29) % 31
 }

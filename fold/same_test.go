@@ -11,14 +11,7 @@ import (
 // P18.1: blocks by chance do the same, on states by chance, and whatever comes of what is wanted.
 func TestSameByChance(t *testing.T) {
 	faults, guests, others, waits, changes := 0, 0, 0, 0, 0
-	r := rand.New(rand.NewSource(1811))
-	for k := range 20000 {
-		c := chance{r, 1 + r.Intn(4), []int{4, 12, 60}[r.Intn(3)]}
-		many := 2 + c.Intn(40)
-		if k%1000 == 0 {
-			many = api.MaxOps
-		}
-		b := c.block(many)
+	eachByChance(1811, func(c chance, b api.Block) {
 		for range 3 {
 			d := doesTheSame(t, b, c.core(b.EL), c.gots(16))
 			waits += len(d.wants)
@@ -34,7 +27,7 @@ func TestSameByChance(t *testing.T) {
 		if _, changed := stepped(t, b); changed {
 			changes++
 		}
-	}
+	})
 	if faults < 2000 || guests < 2000 || others < 2000 || waits < 20000 || changes < 10000 || changes > 19500 {
 		t.Error(faults, guests, others, waits, changes)
 	}

@@ -11,20 +11,13 @@ import (
 
 // P18.2: blocks by chance: nothing is left of what may not be, and nothing is more that may not be more.
 func TestSimpleByChance(t *testing.T) {
-	r := rand.New(rand.NewSource(1821))
 	much := 0
-	for k := range 20000 {
-		c := chance{r, 1 + r.Intn(4), []int{4, 12, 60}[r.Intn(3)]}
-		many := 2 + c.Intn(40)
-		if k%1000 == 0 {
-			many = api.MaxOps
-		}
-		b := c.block(many)
+	eachByChance(1821, func(_ chance, b api.Block) {
 		if leftover(b) != "" {
 			much++
 		}
 		isSimple(t, b)
-	}
+	})
 	if much < 10000 {
 		t.Error(much)
 	}
